@@ -129,8 +129,8 @@ func nodeOf(n Node, operands []node) node {
 	return inNode{}
 }
 
-// raised makes an expression of its list, bottom up, each node by build. It does not
-// call itself, since an expression that is in no tree may be of any depth.
+// raised makes an expression of its list, bottom up, each node by build: the operands of
+// a node are the expressions that were made last.
 func raised(e []Node, build func(n Node, operands []node) node) node {
 	var whole []node
 	for _, n := range e {

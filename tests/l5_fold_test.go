@@ -176,29 +176,42 @@ func (m *maker) loose(size int64) []impl.Node {
 	return slices.Concat(m.loose(half), m.loose(size-1-half), nodes(op))
 }
 
-func TestFoldOfLongLists(t *testing.T) {
-	const many = 300000
-	var e []impl.Node
-	e = append(e, variable("x"))
-	for range many {
-		e = append(e, un(impl.UnInv))
+// longLists gives expressions of so many nodes (an odd number), and what they fold to.
+func longLists(count int) [][2][]impl.Node {
+	half := (count - 1) / 2
+	signs := append(nodes(variable("x")), slices.Repeat(nodes(un(impl.UnInv)), count-1)...)
+	known := append(nodes(num(7)), slices.Repeat(nodes(un(impl.UnInv)), count-1)...)
+	left := append(nodes(ask), slices.Repeat(nodes(num(1), bin(impl.BinAdd)), half)...)
+	sum := append(nodes(num(0)), slices.Repeat(nodes(num(1), bin(impl.BinAdd)), half)...)
+	right := slices.Concat(slices.Repeat(nodes(num(2)), half), nodes(ask), slices.Repeat(nodes(bin(impl.BinSub)), half))
+	chain := slices.Concat(slices.Repeat(nodes(num(2)), half), nodes(ask), slices.Repeat(nodes(both), half))
+	return [][2][]impl.Node{
+		{signs, signs}, {known, nodes(num(7))}, {left, left}, {sum, nodes(num(int64(half)))}, {right, right},
+		{chain, append(nodes(ask), slices.Repeat(nodes(num(0), bin(impl.BinNe)), half)...)},
 	}
-	foldsTo(t, e, e)
-	e[0] = num(7)
-	foldsTo(t, e, nodes(num(7)))
-	e = append(e, un(impl.UnInv))
-	foldsTo(t, e, nodes(num(-8)))
-	left := nodes(ask)
-	for range many {
-		left = append(left, num(1), bin(impl.BinAdd))
+}
+
+// TestFoldAtNodeMax: what has more nodes is in no valid tree, and so no expression.
+func TestFoldAtNodeMax(t *testing.T) {
+	inTree := func(e []impl.Node) bool { return impl.ValidTree(body(impl.Stmt{Kind: impl.SReturn, E: e})) }
+	for _, count := range []int{impl.NodeMax - 3, impl.NodeMax - 1, impl.NodeMax + 1, impl.NodeMax + 3, 2*impl.NodeMax + 1, 300001} {
+		for _, r := range longLists(count) {
+			if len(r[0]) != count || inTree(r[0]) != (count <= impl.NodeMax) {
+				t.Fatalf("%d nodes", len(r[0]))
+			}
+			if count <= impl.NodeMax {
+				foldsTo(t, r[0], r[1])
+			} else {
+				foldsTo(t, r[0], nil)
+			}
+			// One node more.
+			minus := append(slices.Clone(r[0]), un(impl.UnNeg))
+			if got := impl.Fold(minus); (len(got) > 0) != (count < impl.NodeMax) {
+				t.Errorf("%d nodes fold to %d", len(minus), len(got))
+			}
+		}
 	}
-	foldsTo(t, left, left)
-	left[0] = num(0)
-	foldsTo(t, left, nodes(num(many)))
-	right := append(slices.Repeat(nodes(num(2)), many), nodes(ask)...)
-	right = append(right, slices.Repeat(nodes(bin(impl.BinSub)), many)...)
-	foldsTo(t, right, right)
-	chain := append(slices.Repeat(nodes(num(2)), many), nodes(ask)...)
-	chain = append(chain, slices.Repeat(nodes(both), many)...)
-	foldsTo(t, chain, append(nodes(ask), slices.Repeat(nodes(num(0), bin(impl.BinNe)), many)...))
+	full := append(nodes(num(7)), slices.Repeat(nodes(un(impl.UnInv)), impl.NodeMax-1)...)
+	foldsTo(t, full, nodes(num(-8)))
+	foldsTo(t, append(full, un(impl.UnInv)), nil)
 }
